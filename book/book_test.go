@@ -1,0 +1,63 @@
+package book
+
+import (
+	"maps"
+	"testing"
+
+	"croft/api"
+)
+
+func write(txn, prev, cell, was, now int) api.Rec {
+	return api.Rec{Kind: api.Write, Txn: txn, Prev: prev, Cell: cell, Old: was, New: now}
+}
+
+func read(t *testing.T, l ...api.Rec) *Book {
+	t.Helper()
+	b, e := Read(l)
+	if e != api.OK {
+		t.Fatalf("%v is not right: %d", l, e)
+	}
+	return b
+}
+
+func TestC1WhoHasWhichCell(t *testing.T) {
+	one := Place{Page: 0, Cell: 1}
+	l := []api.Rec{
+		write(1, 0, 1, 0, 5), write(1, 1, 1, 5, 6),
+		{Kind: api.Back, Txn: 1, Prev: 2, Cell: 1, Old: 6, New: 5, Next: 1}, {Kind: api.Back, Txn: 1, Prev: 3, Cell: 1, Old: 5, New: 0},
+		{Kind: api.End, Txn: 1, Prev: 4},
+		write(2, 0, 1, 0, 7), {Kind: api.Commit, Txn: 2, Prev: 6}, {Kind: api.End, Txn: 2, Prev: 7},
+	}
+	for n, want := range []map[Place]Hold{
+		{}, {one: {1, 1}}, {one: {1, 2}}, {one: {1, 1}}, {}, {}, {one: {2, 1}}, {one: {2, 1}}, {},
+	} {
+		if got := read(t, l[:n]...).Holds; !maps.Equal(got, want) {
+			t.Errorf("behind %d records %v, and must be %v", n, got, want)
+		}
+	}
+}
+
+func TestC1WithAnErrorTheBookIsAsItWas(t *testing.T) {
+	b := read(t, write(1, 0, 0, 0, 5))
+	for _, r := range []api.Rec{{}, write(10, 0, 1, 0, 5), write(1, 0, 1, 0, 5), write(2, 0, 0, 5, 6), {Kind: api.End, Txn: 1, Prev: 1}} {
+		if e := b.Put(r); e == api.OK {
+			t.Errorf("%+v is put", r)
+		}
+	}
+	if b.Size != 1 || len(b.Txns) != 1 || len(b.Holds) != 1 || b.Txns[1].Last != 1 || b.Pages[0].Last != 1 {
+		t.Errorf("the book is %+v", b)
+	}
+	if e := b.Put(write(1, 1, 1, 0, 6)); e != api.OK {
+		t.Errorf("then it is refused: %d", e)
+	}
+}
+
+func TestC1TheNextBack(t *testing.T) {
+	b := read(t, write(1, 0, 0, 0, 5), write(1, 1, 1, 0, 6))
+	if got, want := b.Txns[1].Back(), (api.Rec{Kind: api.Back, Txn: 1, Prev: 2, Cell: 1, Old: 6, New: 0, Next: 1}); got != want {
+		t.Errorf("it is %+v, and must be %+v", got, want)
+	}
+	if got := b.Txns[2].Back(); got != (api.Rec{}) {
+		t.Errorf("of nothing: %+v", got)
+	}
+}

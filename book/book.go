@@ -77,11 +77,16 @@ func (b *Book) mayNotFollow(r api.Rec) bool {
 
 // clashes tells whether a Write misses what the cell is, or another Txn has the cell.
 func (b *Book) clashes(r api.Rec) bool {
-	h := b.Holds[placeOf(r)]
 	return ask.Any(
 		func() bool { return r.Old != b.Pages[r.Page].Cells[r.Cell] },
-		func() bool { return h.Writes > 0 && h.Txn != r.Txn },
+		func() bool { return b.Busy(placeOf(r), r.Txn) },
 	)
+}
+
+// Busy tells whether another Txn than that one has a Write of the cell that stands.
+func (b *Book) Busy(at Place, txn int) bool {
+	h := b.Holds[at]
+	return h.Writes > 0 && h.Txn != txn
 }
 
 func (b *Book) turn(n int, r api.Rec) {

@@ -61,3 +61,18 @@ func TestC1TheNextBack(t *testing.T) {
 		t.Errorf("of nothing: %+v", got)
 	}
 }
+
+func TestC1F1WhoFindsACellBusy(t *testing.T) {
+	b := read(t, write(1, 0, 0, 0, 5))
+	for _, c := range []struct {
+		at   Place
+		txn  int
+		want bool
+	}{
+		{Place{0, 0}, 1, false}, {Place{0, 0}, 2, true}, {Place{0, 1}, 2, false}, {Place{1, 0}, 2, false}, {Place{-1, 7}, 0, false},
+	} {
+		if got := b.Busy(c.at, c.txn); got != c.want {
+			t.Errorf("%v of %d: %v", c.at, c.txn, got)
+		}
+	}
+}

@@ -62,6 +62,25 @@ func (d *Desk) Add(r api.Rec) api.Errno {
 	return api.OK
 }
 
+// Secure has the first n records safe; what was safe stays so.
+func (d *Desk) Secure(n int) {
+	if n > d.Safe {
+		d.Safe = n
+	}
+}
+
+// Lay lays those pages on the disk as they are now; with an error the desk is as it was. The log goes there ahead of each, so that nothing lies on the disk that the safe log does not tell of.
+func (d *Desk) Lay(pages ...int) api.Errno {
+	if ask.Outside(0, api.Pages-1, pages...) {
+		return api.ErrRange
+	}
+	for _, at := range pages {
+		d.Secure(d.Pages[at].Last)
+		d.Disk[at] = d.Pages[at]
+	}
+	return api.OK
+}
+
 // untold tells whether that page of Disk is not what the safe log tells of it, up to the page's own Last.
 func (d *Desk) untold(at int) bool {
 	p := d.Disk[at]

@@ -70,3 +70,40 @@ func TestP2TheWorldIsNewMemory(t *testing.T) {
 		t.Errorf("it shares the log's memory: %v", got.Log)
 	}
 }
+
+func TestH1WhatWasSafeStaysSo(t *testing.T) {
+	d, _ := Open(two())
+	for _, c := range []struct{ n, want int }{{0, 1}, {1, 1}, {2, 2}, {1, 2}, {0, 2}} {
+		if d.Secure(c.n); d.Safe != c.want {
+			t.Errorf("%d: %d are safe, and must be %d", c.n, d.Safe, c.want)
+		}
+	}
+}
+
+func TestH1H2ManyPagesAreLaid(t *testing.T) {
+	w := api.World{Log: []api.Rec{
+		{Kind: api.Write, Txn: 1, Page: 2, New: 5}, {Kind: api.Write, Txn: 1, Prev: 1, New: 6},
+		{Kind: api.Write, Txn: 1, Prev: 2, Page: 1, New: 7}, {Kind: api.Commit, Txn: 1, Prev: 3},
+	}}
+	for _, c := range []struct {
+		pages []int
+		safe  int
+	}{
+		{nil, 0}, {[]int{2}, 1}, {[]int{0}, 2}, {[]int{0, 2}, 2}, {[]int{2, 0}, 2}, {[]int{1, 2}, 3}, {[]int{0, 1, 2}, 3}, {[]int{2, 2}, 1},
+	} {
+		d, _ := Open(w)
+		var want [api.Pages]api.Page
+		for _, at := range c.pages {
+			want[at] = d.Pages[at]
+		}
+		if e := d.Lay(c.pages...); e != api.OK || d.Disk != want || d.Safe != c.safe {
+			t.Errorf("%v: %d; %v lie there, %d are safe, and %v and %d must", c.pages, e, d.Disk, d.Safe, want, c.safe)
+		}
+	}
+	d, _ := Open(w)
+	for _, pages := range [][]int{{-1}, {3}, {0, 1, 3}, {2, -1, 0}} {
+		if e := d.Lay(pages...); e != api.ErrRange || d.Disk != w.Disk || d.Safe != 0 {
+			t.Errorf("%v: %d; %v lie there, %d are safe", pages, e, d.Disk, d.Safe)
+		}
+	}
+}

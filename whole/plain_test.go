@@ -125,3 +125,67 @@ func commitOf(w api.World, txn int) (api.World, api.Errno) {
 	w.Safe = n + 1
 	return w, api.OK
 }
+
+// stepOf: chapter 7, Step.
+func stepOf(l []api.Rec, txn int) (api.Rec, api.Errno) {
+	if e := log.Check(l); e != api.OK {
+		return api.Rec{}, e
+	}
+	switch {
+	case none(txn, 1, 9):
+		return api.Rec{}, api.ErrRange
+	case lastOf(l, txn) == 0:
+		return api.Rec{}, api.ErrNone
+	case has(l, txn, api.Commit) || has(l, txn, api.End):
+		return api.Rec{}, api.ErrOver
+	}
+	stand := standing(l, txn)
+	if len(stand) == 0 {
+		return api.Rec{Kind: 4, Txn: txn, Prev: lastOf(l, txn)}, api.OK
+	}
+	x := stand[len(stand)-1]
+	return api.Rec{Kind: 3, Txn: txn, Prev: lastOf(l, txn), Page: x.Page, Cell: x.Cell, Old: x.New, New: x.Old, Next: x.Prev}, api.OK
+}
+
+// abortOf: chapter 7, Abort.
+func abortOf(w api.World, txn int) (api.World, api.Errno) {
+	if e := checkWorld(w); e != api.OK {
+		return api.World{}, e
+	}
+	if _, e := stepOf(w.Log, txn); e != api.OK {
+		return api.World{}, e
+	}
+	for !has(w.Log, txn, api.End) {
+		r, _ := stepOf(w.Log, txn)
+		if len(w.Log) == 60 {
+			return api.World{}, api.ErrMany
+		}
+		w.Log = slices.Concat(w.Log, []api.Rec{r})
+	}
+	return w, api.OK
+}
+
+// syncOf: chapter 8, Sync.
+func syncOf(w api.World, n int) (api.World, api.Errno) {
+	if e := checkWorld(w); e != api.OK {
+		return api.World{}, e
+	}
+	if none(n, 0, len(w.Log)) {
+		return api.World{}, api.ErrRange
+	}
+	w.Safe = max(w.Safe, n)
+	return w, api.OK
+}
+
+// layOf: chapter 8, Page.
+func layOf(w api.World, page int) (api.World, api.Errno) {
+	if e := checkWorld(w); e != api.OK {
+		return api.World{}, e
+	}
+	if none(page, 0, 2) {
+		return api.World{}, api.ErrRange
+	}
+	w.Disk[page] = pagesOf(w.Log)[page]
+	w.Safe = max(w.Safe, w.Disk[page].Last)
+	return w, api.OK
+}

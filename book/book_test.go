@@ -2,6 +2,7 @@ package book
 
 import (
 	"maps"
+	"slices"
 	"testing"
 
 	"croft/api"
@@ -74,5 +75,56 @@ func TestC1F1WhoFindsACellBusy(t *testing.T) {
 		if got := b.Busy(c.at, c.txn); got != c.want {
 			t.Errorf("%v of %d: %v", c.at, c.txn, got)
 		}
+	}
+}
+
+// four: 7 has written, 5 has a Commit, 2 has a Back, 9 is over; the others have nothing.
+func four(t *testing.T) *Book {
+	return read(t,
+		write(7, 0, 0, 0, 5), write(2, 0, 1, 0, 6), api.Rec{Kind: api.Commit, Txn: 9}, api.Rec{Kind: api.Commit, Txn: 5},
+		api.Rec{Kind: api.End, Txn: 9, Prev: 3}, api.Rec{Kind: api.Back, Txn: 2, Prev: 2, Cell: 1, Old: 6},
+	)
+}
+
+func TestI1TxnsAreGoneThroughByTheirStates(t *testing.T) {
+	b := four(t)
+	for _, c := range []struct{ states, want []int }{
+		{nil, nil}, {[]int{0}, []int{1, 3, 4, 6, 8}}, {[]int{1}, []int{7}}, {[]int{2}, []int{5}}, {[]int{3}, []int{2}}, {[]int{4}, []int{9}},
+		{[]int{1, 3}, []int{2, 7}}, {[]int{3, 1, 3}, []int{2, 7}}, {[]int{4, 3, 2, 1}, []int{2, 5, 7, 9}}, {[]int{5, -1}, nil},
+	} {
+		var got []int
+		for txn, x := range b.InState(c.states...) {
+			got = append(got, txn)
+			if x.State != b.Txns[txn].State || x.Last != b.Txns[txn].Last {
+				t.Errorf("%v: %d is told as %+v", c.states, txn, x)
+			}
+		}
+		if !slices.Equal(got, c.want) {
+			t.Errorf("%v: %v, and must be %v", c.states, got, c.want)
+		}
+	}
+	if len(b.Txns) != 4 {
+		t.Errorf("who is looked at has come into the book: %v", b.Txns)
+	}
+}
+
+func TestI1WhoGoesThroughMayLeaveAndMayPut(t *testing.T) {
+	b := four(t)
+	for txn := range b.InState(1, 2, 3, 4) {
+		if txn != 2 {
+			t.Errorf("it goes on to %d", txn)
+		}
+		break
+	}
+	var got []int
+	for txn := range b.InState(1, 3) {
+		got = append(got, txn)
+		if txn == 2 {
+			b.Put(api.Rec{Kind: api.Commit, Txn: 7, Prev: 1})
+			b.Put(write(8, 0, 2, 0, 1))
+		}
+	}
+	if !slices.Equal(got, []int{2, 8}) {
+		t.Errorf("%v hang when their turns come", got)
 	}
 }

@@ -1,6 +1,23 @@
 package book
 
-import "croft/api"
+import (
+	"iter"
+	"slices"
+
+	"croft/api"
+)
+
+// InState goes through the Txns, rising, whose state is one of these. Each is looked at when its turn comes, so that who goes through them may put records meanwhile.
+func (b *Book) InState(states ...int) iter.Seq2[int, Txn] {
+	return func(yield func(int, Txn) bool) {
+		for txn := 1; txn <= api.MaxTxns; txn++ {
+			t := b.Txns[txn]
+			if slices.Contains(states, t.State) && !yield(txn, t) {
+				return
+			}
+		}
+	}
+}
 
 // allows tells whether a record of that kind may come behind those that the Txn has.
 func (t Txn) allows(kind int) bool {

@@ -189,3 +189,77 @@ func layOf(w api.World, page int) (api.World, api.Errno) {
 	w.Safe = max(w.Safe, w.Disk[page].Last)
 	return w, api.OK
 }
+
+// crashOf: chapter 9, Crash.
+func crashOf(w api.World) (api.World, api.Errno) {
+	if e := checkWorld(w); e != api.OK {
+		return api.World{}, e
+	}
+	w.Log = slices.Clone(w.Log[:w.Safe])
+	return w, api.OK
+}
+
+// losersOf: chapter 9, Losers, of a right log.
+func losersOf(l []api.Rec) []int {
+	var losers []int
+	for txn := 1; txn <= 9; txn++ {
+		if lastOf(l, txn) > 0 && !has(l, txn, api.Commit) && !has(l, txn, api.End) {
+			losers = append(losers, txn)
+		}
+	}
+	return losers
+}
+
+// redoOf: chapter 9, Redo: so many records turn a page behind what lies of it.
+func redoOf(w api.World) ([api.Pages]api.Page, int, api.Errno) {
+	if e := checkWorld(w); e != api.OK {
+		return [api.Pages]api.Page{}, 0, e
+	}
+	if w.Safe != len(w.Log) {
+		return [api.Pages]api.Page{}, 0, api.ErrForm
+	}
+	done := 0
+	for i, r := range w.Log {
+		if (r.Kind == api.Write || r.Kind == api.Back) && i+1 > w.Disk[r.Page].Last {
+			done++
+		}
+	}
+	return pagesOf(w.Log), done, api.OK
+}
+
+// mendOf: chapter 10: so many records are put at most; those pages are laid; how many were put.
+func mendOf(w api.World, most int, pages [api.Pages]bool) (api.World, int, api.Errno) {
+	w, e := crashOf(w)
+	if e != api.OK {
+		return api.World{}, 0, e
+	}
+	var put []api.Rec
+	for txn := 1; txn <= 9; txn++ {
+		if has(w.Log, txn, api.Commit) && !has(w.Log, txn, api.End) {
+			put = append(put, api.Rec{Kind: 4, Txn: txn, Prev: lastOf(w.Log, txn)})
+		}
+	}
+	losers := losersOf(w.Log)
+	slices.SortFunc(losers, func(a, b int) int { return lastOf(w.Log, b) - lastOf(w.Log, a) })
+	// Whose last record has the greatest number, has it still behind its first step: so it is taken back to its End.
+	for _, txn := range losers {
+		prev := lastOf(w.Log, txn)
+		for _, x := range slices.Backward(standing(w.Log, txn)) {
+			put = append(put, api.Rec{Kind: 3, Txn: txn, Prev: prev, Page: x.Page, Cell: x.Cell, Old: x.New, New: x.Old, Next: x.Prev})
+			prev = len(w.Log) + len(put)
+		}
+		put = append(put, api.Rec{Kind: 4, Txn: txn, Prev: prev})
+	}
+	put = put[:min(most, len(put))]
+	if len(w.Log)+len(put) > 60 {
+		return api.World{}, 0, api.ErrMany
+	}
+	w.Log = slices.Concat(w.Log, put)
+	w.Safe = len(w.Log)
+	for i, p := range pagesOf(w.Log) {
+		if pages[i] {
+			w.Disk[i] = p
+		}
+	}
+	return w, len(put), api.OK
+}
